@@ -80,7 +80,7 @@ func ReadValue(t string) (Value, int) {
 	if n, ok := readNumber(t); ok {
 		return boundedInt(n)
 	}
-	if text, ok := readQuoted(t); ok {
+	if text, size := readQuoted(t); size > 0 && size == len(t) && quotable(text) {
 		return textValue(text), OK
 	}
 	return Value{}, ErrForm
@@ -300,28 +300,4 @@ func cutText(t string, from, to int) (Value, int) {
 		return Value{}, ErrRange
 	}
 	return textValue(t[from:to]), OK
-}
-
-// readQuoted takes a whole text between quotes; the bool says whether t is one.
-func readQuoted(t string) (string, bool) {
-	if len(t) < 2 || t[0] != '\'' || t[len(t)-1] != '\'' {
-		return "", false
-	}
-	inner := t[1 : len(t)-1]
-	var meant []byte
-	for i := 0; i < len(inner); i++ {
-		c := inner[i]
-		if c == '\'' || c < 32 || c > 126 || len(meant) == MaxWord {
-			return "", false
-		}
-		if c == '\\' {
-			i++
-			if i == len(inner) || inner[i] != '\'' && inner[i] != '\\' {
-				return "", false
-			}
-			c = inner[i]
-		}
-		meant = append(meant, c)
-	}
-	return string(meant), true
 }

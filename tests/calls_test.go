@@ -43,6 +43,30 @@ func valueCalls() []func() string {
 	return calls
 }
 
+// tokenCalls are calls of chapter 3, ordinary and wrong ones.
+func tokenCalls() []func() string {
+	var calls []func() string
+	tokens := append(rightTokens(), wrongTokens()...)
+	for _, s := range append(append(plainTexts(), otherTexts()...), "let x = 'it\\'s';", "a #", "'a\\'", "12 01", "===", strings.Repeat(";", 300), strings.Repeat(";", 301), strings.Repeat(" ", 601), strings.Repeat("z", impl.MaxText+1)) {
+		calls = append(calls,
+			func() string { return fmt.Sprint(impl.LexSource(s)) },
+			func() string { return fmt.Sprint(impl.WordOK(s)) },
+			func() string { return fmt.Sprint(impl.QuoteText(s)) })
+	}
+	for i, x := range tokens {
+		list := tokens[max(0, i-3) : i+1]
+		calls = append(calls,
+			func() string { return fmt.Sprint(impl.TokenText(x)) },
+			func() string { return fmt.Sprint(impl.JoinTokens(list)) },
+			func() string { return fmt.Sprint(impl.JoinTokens(slices.Repeat(list, i))) })
+	}
+	return calls
+}
+
+func allCalls() []func() string {
+	return append(valueCalls(), tokenCalls()...)
+}
+
 func answersOf(calls []func() string) []string {
 	answers := make([]string, len(calls))
 	for i, call := range calls {
@@ -52,7 +76,7 @@ func answersOf(calls []func() string) []string {
 }
 
 func TestAlikeArgumentsHaveAlikeAnswers(t *testing.T) {
-	calls := valueCalls()
+	calls := allCalls()
 	first := answersOf(calls)
 	order := rand.New(rand.NewSource(1)).Perm(len(calls))
 	for _, k := range order {
@@ -69,11 +93,11 @@ func TestAlikeArgumentsHaveAlikeAnswers(t *testing.T) {
 }
 
 func TestCallsBesideEachOtherAnswerAlike(t *testing.T) {
-	first := answersOf(valueCalls())
+	first := answersOf(allCalls())
 	var group sync.WaitGroup
 	answers := make([][]string, 4)
 	for i := range answers {
-		group.Go(func() { answers[i] = answersOf(valueCalls()) })
+		group.Go(func() { answers[i] = answersOf(allCalls()) })
 	}
 	group.Wait()
 	for _, a := range answers {
@@ -104,6 +128,32 @@ func TestAnswersOutliveTheirArguments(t *testing.T) {
 	got, code := impl.Builtin("cut", args)
 	clear(args)
 	wantValue(t, "cut", got, code, word("bc"), impl.OK)
+}
+
+func TestJoinTokensLeavesItsList(t *testing.T) {
+	for _, x := range append(rightTokens(), wrongTokens()...) {
+		for n := range 4 {
+			room := []impl.Token{tok(impl.ToText, 7, "it's"), x, tok(impl.ToName, -1, "a"), tok(impl.ToSign, 3, "behind"), tok(impl.ToInt, 9, "1")}
+			before := slices.Clone(room)
+			impl.JoinTokens(room[:n])
+			if !slices.Equal(room, before) {
+				t.Errorf("JoinTokens of %d tokens wrote into them: %s, was %s", n, brief(room), brief(before))
+			}
+		}
+	}
+}
+
+// A list that was answered is its caller's own: what is written into it, or behind its end, is not to be seen in another answer.
+func TestLexedListsShareNothing(t *testing.T) {
+	const source = "let x = 'it\\'s' == y;"
+	first, _, _ := impl.LexSource(source)
+	want := slices.Clone(first)
+	second, _, _ := impl.LexSource(source)
+	clear(first[:cap(first)])
+	if !slices.Equal(second, want) {
+		t.Errorf("the second list is %s, want %s", brief(second), brief(want))
+	}
+	wantLex(t, source, want, 0, impl.OK)
 }
 
 func FuzzValues(f *testing.F) {
