@@ -63,8 +63,36 @@ func tokenCalls() []func() string {
 	return calls
 }
 
+// treeCalls are calls of chapter 4, ordinary and wrong ones.
+func treeCalls() []func() string {
+	var calls []func() string
+	trees := wrongTrees()
+	for _, p := range rightPlants() {
+		trees = append(trees, p.parsed())
+	}
+	for _, s := range []string{"", "let a = 1 + b; a;", "function f(a, b) { return a; } try { x; } catch (e) { f(1, e); }", "return 1", "}", "a #", strings.Repeat("(", 25), strings.Repeat("1+1;", 67), strings.Repeat(" ", 601), strings.Repeat("z", impl.MaxText+1)} {
+		tree, _, _ := impl.ParseSource(s)
+		trees = append(trees, tree)
+		calls = append(calls, func() string { return fmt.Sprint(impl.ParseSource(s)) })
+	}
+	for i, tree := range trees {
+		calls = append(calls,
+			func() string { return fmt.Sprint(impl.TreeOK(tree)) },
+			func() string { return fmt.Sprint(impl.TreeText(tree)) },
+			func() string { return fmt.Sprint(impl.TreeDepth(tree)) })
+		for _, k := range []int{-1, 0, 1, i, len(tree.Nodes) - 1, len(tree.Nodes)} {
+			calls = append(calls,
+				func() string { return fmt.Sprint(impl.CountKind(tree, k)) },
+				func() string { return fmt.Sprint(impl.ParentOf(tree, k)) },
+				func() string { return fmt.Sprint(impl.SizeOf(tree, k)) },
+				func() string { return fmt.Sprint(impl.PathTo(tree, k)) })
+		}
+	}
+	return calls
+}
+
 func allCalls() []func() string {
-	return append(valueCalls(), tokenCalls()...)
+	return slices.Concat(valueCalls(), tokenCalls(), treeCalls())
 }
 
 func answersOf(calls []func() string) []string {
@@ -154,6 +182,65 @@ func TestLexedListsShareNothing(t *testing.T) {
 		t.Errorf("the second list is %s, want %s", brief(second), brief(want))
 	}
 	wantLex(t, source, want, 0, impl.OK)
+}
+
+// Neither the nodes, their kids and names, nor what stands behind the end of each list is written into.
+func TestTreeCallsLeaveTheirTree(t *testing.T) {
+	room := func(tree impl.Tree) impl.Tree {
+		tree = cloneTree(tree)
+		behind := tree.Nodes[:cap(tree.Nodes)]
+		for i := len(tree.Nodes); i < len(behind); i++ {
+			behind[i] = impl.Node{Kind: impl.NoBlock, Text: "behind", Names: []string{"behind"}, Kids: []int{7}}
+		}
+		for _, n := range tree.Nodes {
+			names, kids := n.Names[:cap(n.Names)], n.Kids[:cap(n.Kids)]
+			for i := len(n.Names); i < len(names); i++ {
+				names[i] = "behind"
+			}
+			for i := len(n.Kids); i < len(kids); i++ {
+				kids[i] = -7
+			}
+		}
+		return tree
+	}
+	whole := func(tree impl.Tree) string {
+		var told strings.Builder
+		fmt.Fprint(&told, tree.Root, tree.Nodes[:cap(tree.Nodes)])
+		for _, n := range tree.Nodes {
+			fmt.Fprint(&told, n.Names[:cap(n.Names)], n.Kids[:cap(n.Kids)])
+		}
+		return told.String()
+	}
+	trees := wrongTrees()
+	for _, p := range rightPlants() {
+		trees = append(trees, p.parsed())
+	}
+	for _, tree := range trees {
+		tree = room(tree)
+		before := whole(tree)
+		impl.TreeOK(tree)
+		impl.TreeText(tree)
+		impl.TreeDepth(tree)
+		for k := -1; k <= min(len(tree.Nodes), 21); k++ {
+			impl.CountKind(tree, k)
+			impl.ParentOf(tree, k)
+			impl.SizeOf(tree, k)
+			impl.PathTo(tree, k)
+		}
+		if whole(tree) != before {
+			t.Errorf("a call wrote into %s", briefTree(tree))
+		}
+	}
+}
+
+func TestPathsShareNothing(t *testing.T) {
+	tree, _, _ := impl.ParseSource("let a = 1 + b; a;")
+	first, _ := impl.PathTo(tree, 0)
+	second, _ := impl.PathTo(tree, 0)
+	clear(first[:cap(first)])
+	if third, _ := impl.PathTo(tree, 0); !slices.Equal(second, third) || !slices.Equal(second, []int{6, 3, 2, 0}) {
+		t.Errorf("PathTo = %v, then %v", second, third)
+	}
 }
 
 func FuzzValues(f *testing.F) {
