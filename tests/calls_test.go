@@ -91,8 +91,39 @@ func treeCalls() []func() string {
 	return calls
 }
 
+// nameCalls are calls of chapter 5, ordinary and wrong ones.
+func nameCalls() []func() string {
+	var calls []func() string
+	trees := wrongTrees()
+	for _, p := range rightPlants() {
+		trees = append(trees, p.parsed())
+	}
+	for _, s := range []string{"", "let x = path; { let x = x; } try { f(x); } catch (e) { e = 1; } function f(a) { return g(f(a)); } function g(a) { return len(a); }", "let x = x;", "function f(a, a) { }", "len();", numbered(0, 20, "let v#=1;"), numbered(0, 9, "function f#(){}")} {
+		tree, _, _ := impl.ParseSource(s)
+		trees = append(trees, tree)
+	}
+	for i, tree := range trees {
+		calls = append(calls,
+			func() string { return fmt.Sprint(impl.CheckNames(tree)) },
+			func() string { return fmt.Sprint(impl.FuncsOf(tree)) })
+		for _, k := range []int{-1, 0, 1, i, tree.Root, len(tree.Nodes) - 2, len(tree.Nodes)} {
+			calls = append(calls,
+				func() string { return fmt.Sprint(impl.SlotsOf(tree, k)) },
+				func() string { return fmt.Sprint(impl.ScopeAt(tree, k)) },
+				func() string { return fmt.Sprint(impl.CallsOf(tree, k)) })
+		}
+		for _, name := range []string{"f", "g", "path", "x", "e", "", "\xff", strings.Repeat("z", impl.MaxText+1)} {
+			calls = append(calls,
+				func() string { return fmt.Sprint(impl.UsesOf(tree, name)) },
+				func() string { return fmt.Sprint(impl.Comes(tree, "f", name)) },
+				func() string { return fmt.Sprint(impl.Comes(tree, name, "f")) })
+		}
+	}
+	return calls
+}
+
 func allCalls() []func() string {
-	return slices.Concat(valueCalls(), tokenCalls(), treeCalls())
+	return slices.Concat(valueCalls(), tokenCalls(), treeCalls(), nameCalls())
 }
 
 func answersOf(calls []func() string) []string {
@@ -215,6 +246,8 @@ func TestTreeCallsLeaveTheirTree(t *testing.T) {
 	for _, p := range rightPlants() {
 		trees = append(trees, p.parsed())
 	}
+	named, _, _ := impl.ParseSource("function f(a, b) { let c = g(f(b, a)); try { c; } catch (e) { e = c; } } function g(a) { } let x = f(g(1), path);")
+	trees = append(trees, named)
 	for _, tree := range trees {
 		tree = room(tree)
 		before := whole(tree)
@@ -226,7 +259,14 @@ func TestTreeCallsLeaveTheirTree(t *testing.T) {
 			impl.ParentOf(tree, k)
 			impl.SizeOf(tree, k)
 			impl.PathTo(tree, k)
+			impl.SlotsOf(tree, k)
+			impl.ScopeAt(tree, k)
+			impl.CallsOf(tree, k)
 		}
+		impl.CheckNames(tree)
+		impl.FuncsOf(tree)
+		impl.UsesOf(tree, "a")
+		impl.Comes(tree, "f", "f")
 		if whole(tree) != before {
 			t.Errorf("a call wrote into %s", briefTree(tree))
 		}

@@ -191,6 +191,7 @@ func wantTreeAnswers(t *testing.T, tree impl.Tree, p *plant) {
 	got, code := impl.TreeDepth(tree)
 	wantNumber(t, "TreeDepth", tree, 0, got, code, deepest, impl.OK)
 	wantKindsCounted(t, tree)
+	wantNameAnswers(t, tree)
 	if p != nil {
 		wantPrinted(t, tree, p.rootPrinted(), p.parsed())
 	}
@@ -258,6 +259,7 @@ func wantBad(t *testing.T, tree impl.Tree) {
 			t.Errorf("PathTo of %s, %d = %v, %d; want none, ErrBad", briefTree(tree), k, path, code)
 		}
 	}
+	wantBadNames(t, tree)
 	if !sameTree(tree, given) {
 		t.Errorf("a call changed its tree: %s, was %s", briefTree(tree), briefTree(given))
 	}
