@@ -122,8 +122,41 @@ func nameCalls() []func() string {
 	return calls
 }
 
+// codeCalls are calls of chapter 6, ordinary and wrong ones.
+func codeCalls() []func() string {
+	var calls []func() string
+	for _, tree := range wrongTrees() {
+		calls = append(calls, func() string { return fmt.Sprint(impl.CompileTree(tree)) })
+	}
+	programs := []impl.Program{{}, alone(nil), alone(written("push 1")), alone(written("push 1, push 2, jump 1")), alone(written("try 3, done, push 1, return")), {Funcs: make([]impl.Func, 10)}}
+	for _, s := range []string{"", "let x = path; { let x = x && 1; } try { f(x); } catch (e) { e = 1; } function f(a) { while (a) { a = a - 1; } return f(len(a)); }", "x;", "len();", "return", numbered(0, 20, "let v#=1;"), strings.Repeat(" ", 601), strings.Repeat("z", impl.MaxText+1)} {
+		tree, _, _ := impl.ParseSource(s)
+		p, _ := impl.CompileSource(s)
+		programs = append(programs, p)
+		calls = append(calls,
+			func() string { return fmt.Sprint(impl.CompileSource(s)) },
+			func() string { return fmt.Sprint(impl.CompileTree(tree)) })
+	}
+	for _, p := range programs {
+		calls = append(calls,
+			func() string { return fmt.Sprint(impl.ProgramOK(p)) },
+			func() string { return fmt.Sprint(impl.CodeSize(p)) },
+			func() string { return fmt.Sprint(impl.ProgramText(p)) })
+		for _, k := range []int{-1, 0, 1, len(p.Funcs)} {
+			calls = append(calls,
+				func() string { return fmt.Sprint(impl.StackNeed(p, k)) },
+				func() string { return fmt.Sprint(impl.TargetsOf(p, k)) },
+				func() string { return fmt.Sprint(impl.Reached(p, k)) })
+		}
+	}
+	for _, i := range instructionsOf()[:400] {
+		calls = append(calls, func() string { return fmt.Sprint(impl.InsText(i)) })
+	}
+	return calls
+}
+
 func allCalls() []func() string {
-	return slices.Concat(valueCalls(), tokenCalls(), treeCalls(), nameCalls())
+	return slices.Concat(valueCalls(), tokenCalls(), treeCalls(), nameCalls(), codeCalls())
 }
 
 func answersOf(calls []func() string) []string {
@@ -267,6 +300,7 @@ func TestTreeCallsLeaveTheirTree(t *testing.T) {
 		impl.FuncsOf(tree)
 		impl.UsesOf(tree, "a")
 		impl.Comes(tree, "f", "f")
+		impl.CompileTree(tree)
 		if whole(tree) != before {
 			t.Errorf("a call wrote into %s", briefTree(tree))
 		}

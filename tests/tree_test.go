@@ -192,6 +192,7 @@ func wantTreeAnswers(t *testing.T, tree impl.Tree, p *plant) {
 	wantNumber(t, "TreeDepth", tree, 0, got, code, deepest, impl.OK)
 	wantKindsCounted(t, tree)
 	wantNameAnswers(t, tree)
+	wantCompiled(t, tree)
 	if p != nil {
 		wantPrinted(t, tree, p.rootPrinted(), p.parsed())
 	}
@@ -260,6 +261,8 @@ func wantBad(t *testing.T, tree impl.Tree) {
 		}
 	}
 	wantBadNames(t, tree)
+	p, code := impl.CompileTree(tree)
+	wantProgram(t, "CompileTree of "+briefTree(tree), p, code, impl.Program{}, impl.ErrBad)
 	if !sameTree(tree, given) {
 		t.Errorf("a call changed its tree: %s, was %s", briefTree(tree), briefTree(given))
 	}
