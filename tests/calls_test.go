@@ -155,8 +155,41 @@ func codeCalls() []func() string {
 	return calls
 }
 
+// machineCalls are calls of chapter 7, ordinary and wrong ones.
+func machineCalls() []func() string {
+	var calls []func() string
+	machines := []impl.Machine{{}, {State: impl.MaDone, Value: num(1)}, {State: impl.MaThrew, Value: word("x"), Used: 5}, {State: impl.MaRun}, {State: impl.MaDone, Value: impl.Value{Kind: 9}}, {State: impl.MaRun, Frames: make([]impl.CallFrame, 7)}}
+	for _, s := range []string{"", "return path + 1;", "let x = 0; while (true) { try { f(x, 1); } catch (e) { x = e; } } function f(a, b) { throw g(a) + b; } function g(a) { return a && g(0) || a; }", "function f(a) { return f(a); } try { 1 + f(2); } catch (e) { throw e; }", "x;", "return", strings.Repeat(" ", 601), strings.Repeat("z", impl.MaxText+1)} {
+		for _, path := range []string{"", "/a", strings.Repeat("p", 61), strings.Repeat("p", impl.MaxText+1)} {
+			for _, fuel := range []int{-1, 0, 30, 20000, 20001} {
+				calls = append(calls, func() string { return fmt.Sprint(impl.RunSource(s, path, fuel)) })
+			}
+		}
+		p, _ := impl.CompileSource(s)
+		for _, path := range []string{"", "/a", strings.Repeat("p", 61), strings.Repeat("p", impl.MaxText+1)} {
+			calls = append(calls, func() string { return fmt.Sprint(impl.StartMachine(p, path)) })
+		}
+		first, _ := impl.StartMachine(p, "/")
+		later, _ := impl.RunMachine(p, first, 25)
+		for _, m := range append(machines, first, later) {
+			calls = append(calls,
+				func() string { return fmt.Sprint(impl.MachineOK(p, m)) },
+				func() string { return fmt.Sprint(impl.StepMachine(p, m)) },
+				func() string { return fmt.Sprint(impl.NextIns(p, m)) },
+				func() string { return fmt.Sprint(impl.SpareOf(p, m)) },
+				func() string { return fmt.Sprint(impl.SlotAt(p, m, 0, 0)) },
+				func() string { return fmt.Sprint(impl.SlotAt(p, m, 1, -1)) },
+				func() string { return fmt.Sprint(impl.OutcomeText(m)) })
+			for _, fuel := range []int{-1, 0, 1, 50, 20001} {
+				calls = append(calls, func() string { return fmt.Sprint(impl.RunMachine(p, m, fuel)) })
+			}
+		}
+	}
+	return calls
+}
+
 func allCalls() []func() string {
-	return slices.Concat(valueCalls(), tokenCalls(), treeCalls(), nameCalls(), codeCalls())
+	return slices.Concat(valueCalls(), tokenCalls(), treeCalls(), nameCalls(), codeCalls(), machineCalls())
 }
 
 func answersOf(calls []func() string) []string {

@@ -194,7 +194,7 @@ func triesWithin(count int, innermost ...*plant) *plant {
 	return p
 }
 
-// Trees may have more tries within each other than a source, and no code with that many open is right; behind a return none is open.
+// Trees may have more tries within each other than a source: they have their code, too, which is right by itself as long as no more than 20 are open on some way.
 func TestCodeOfTriesWithinEachOther(t *testing.T) {
 	for count := range 67 {
 		root := triesWithin(count)
@@ -203,22 +203,43 @@ func TestCodeOfTriesWithinEachOther(t *testing.T) {
 			continue
 		}
 		p, code := impl.CompileTree(tree)
-		if count > 20 {
-			wantProgram(t, "CompileTree", p, code, impl.Program{}, impl.ErrBad)
-		} else {
-			wantProgram(t, "CompileTree", p, code, programWanted(tree), impl.OK)
+		wantProgram(t, "CompileTree", p, code, impl.Program{Funcs: []impl.Func{{Params: 1, Slots: min(count, 1) + 1, Code: triesCode(count)}}}, impl.OK)
+		if right := impl.ProgramOK(p); right != (count <= 20) {
+			t.Errorf("ProgramOK of %d tries within each other is %v", count, right)
 		}
 		wantCompiled(t, tree)
-		wantCompiled(t, plBlock(plFunc("f", nil, root)).parsed())
+		if inner := plBlock(plFunc("f", nil, root)).parsed(); len(inner.Nodes) <= 200 {
+			wantCompiled(t, inner)
+		}
+		// Behind a return no way comes to them.
 		root.kids = append([]*plant{pl(impl.NoReturn, "", plInt(1))}, root.kids...)
 		if tree := root.parsed(); len(tree.Nodes) <= 200 {
 			p, code := impl.CompileTree(tree)
 			wantProgram(t, "CompileTree behind a return", p, code, programWanted(tree), impl.OK)
+			wantRight(t, p)
 		}
 	}
-	named := triesWithin(30, plDo(plName("x"))).parsed()
-	p, code := impl.CompileTree(named)
-	wantProgram(t, "CompileTree of a wrong name", p, code, impl.Program{}, impl.ErrName)
+	for _, count := range []int{20, 21, 30} {
+		named := triesWithin(count, plDo(plName("x"))).parsed()
+		p, code := impl.CompileTree(named)
+		wantProgram(t, "CompileTree of a wrong name", p, code, impl.Program{}, impl.ErrName)
+		wrong := triesWithin(count).parsed()
+		wrong.Nodes[0].N = 1
+		p, code = impl.CompileTree(wrong)
+		wantProgram(t, "CompileTree of a wrong tree", p, code, impl.Program{}, impl.ErrBad)
+	}
+}
+
+// triesCode is the code of triesWithin: all of them are opened ahead of the innermost block, and end from there on.
+func triesCode(count int) []impl.Ins {
+	var code []impl.Ins
+	for k := range count {
+		code = append(code, impl.Ins{Op: impl.CoTry, N: count + 3*(count-1-k) + 2})
+	}
+	for k := range count {
+		code = append(code, impl.Ins{Op: impl.CoDone}, impl.Ins{Op: impl.CoJump, N: count + 3*k + 3}, impl.Ins{Op: impl.CoStore, N: 1})
+	}
+	return append(code, written("push null, return")...)
 }
 
 // The greatest code, the highest stacks and the deepest ways that 200 nodes can make.

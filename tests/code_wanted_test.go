@@ -479,7 +479,7 @@ func wantBadProgram(t *testing.T, p impl.Program) {
 	wantLines(t, p, nil, impl.ErrBad)
 }
 
-// wantCompiled holds the code of a right tree against what is reckoned here, and goes some ways through it.
+// wantCompiled holds the code of a right tree against what is reckoned here, and goes some ways through it; a tree that no source has may have code that is not right by itself.
 func wantCompiled(t *testing.T, tree impl.Tree) {
 	t.Helper()
 	p, code := impl.CompileTree(tree)
@@ -488,14 +488,12 @@ func wantCompiled(t *testing.T, tree impl.Tree) {
 		return
 	}
 	want := programWanted(tree)
-	if !rightProgram(want) {
-		wantProgram(t, "CompileTree of "+sourceOf(tree), p, code, impl.Program{}, impl.ErrBad)
-		return
-	}
 	wantProgram(t, "CompileTree of "+sourceOf(tree), p, code, want, impl.OK)
 	if code == impl.OK && !t.Failed() {
 		wantProgramAnswers(t, p)
-		wantStacks(t, p)
+		if rightProgram(p) {
+			wantStacks(t, p)
+		}
 	}
 }
 

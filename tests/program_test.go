@@ -314,26 +314,37 @@ func TestEachInstruction(t *testing.T) {
 	}
 }
 
+// forEachCode makes all code of that size, of instructions that are told and of those with the Ops that lead to each place; may says what may stand where.
+func forEachCode(size int, told string, ops []int, may func(at int, i impl.Ins) bool, do func(code []impl.Ins)) {
+	list := written(told)
+	for n := range size {
+		for _, op := range ops {
+			list = append(list, impl.Ins{Op: op, N: n})
+		}
+	}
+	code := make([]impl.Ins, size)
+	var fill func(at int)
+	fill = func(at int) {
+		if at == size {
+			do(code)
+			return
+		}
+		for _, i := range list {
+			if may(at, i) {
+				code[at] = i
+				fill(at + 1)
+			}
+		}
+	}
+	fill(0)
+}
+
 func TestAllShortPrograms(t *testing.T) {
 	t.Parallel()
 	count := 0
+	anywhere := func(int, impl.Ins) bool { return true }
 	for size := 1; size <= 4; size++ {
-		list := written("push 1, pop, return, throw, done, binary +, unary -")
-		for n := range size {
-			for _, op := range []int{impl.CoJump, impl.CoFalse, impl.CoAnd, impl.CoTry} {
-				list = append(list, impl.Ins{Op: op, N: n})
-			}
-		}
-		code := make([]impl.Ins, size)
-		var fill func(at int)
-		fill = func(at int) {
-			if at < size {
-				for _, i := range list {
-					code[at] = i
-					fill(at + 1)
-				}
-				return
-			}
+		forEachCode(size, "push 1, pop, return, throw, done, binary +, unary -", []int{impl.CoJump, impl.CoFalse, impl.CoAnd, impl.CoTry}, anywhere, func(code []impl.Ins) {
 			p := alone(code)
 			right := rightProgram(p)
 			if impl.ProgramOK(p) != right {
@@ -342,8 +353,7 @@ func TestAllShortPrograms(t *testing.T) {
 				count++
 				wantRightProgram(t, p)
 			}
-		}
-		fill(0)
+		})
 	}
 	if count < 4000 {
 		t.Errorf("only %d of the programs were right", count)
