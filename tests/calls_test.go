@@ -188,8 +188,36 @@ func machineCalls() []func() string {
 	return calls
 }
 
+// evalCalls are calls of chapter 8, ordinary and wrong ones.
+func evalCalls() []func() string {
+	var calls []func() string
+	trees := wrongTrees()
+	for _, s := range []string{"", "return path + 1;", "let x = 0; while (true) { try { f(x, 1); } catch (e) { x = e; } } function f(a, b) { throw g(a) + b; } function g(a) { return a && g(0) || a; }", "function f(a) { return f(a); } try { 1 + f(2); } catch (e) { throw e; }", "x;", "return", strings.Repeat(" ", 601), strings.Repeat("z", impl.MaxText+1)} {
+		tree, _, _ := impl.ParseSource(s)
+		trees = append(trees, tree)
+		for _, path := range []string{"", "/a", strings.Repeat("p", 61), strings.Repeat("p", impl.MaxText+1)} {
+			calls = append(calls, func() string { return fmt.Sprint(impl.EvalSource(s, path)) })
+		}
+	}
+	for _, tree := range trees {
+		for _, path := range []string{"", "/a", strings.Repeat("p", 61), strings.Repeat("p", impl.MaxText+1)} {
+			for _, steps := range []int{-1, 0, 10, 3000, 3001} {
+				calls = append(calls, func() string { return fmt.Sprint(impl.EvalTree(tree, path, steps)) })
+			}
+		}
+	}
+	for _, v := range append(rightValues(), wrongValues()...) {
+		for state := -1; state <= 4; state++ {
+			calls = append(calls, func() string {
+				return fmt.Sprint(impl.SameOutcome(impl.Outcome{State: state, Value: v}, impl.Machine{State: state, Value: v}))
+			})
+		}
+	}
+	return calls
+}
+
 func allCalls() []func() string {
-	return slices.Concat(valueCalls(), tokenCalls(), treeCalls(), nameCalls(), codeCalls(), machineCalls())
+	return slices.Concat(valueCalls(), tokenCalls(), treeCalls(), nameCalls(), codeCalls(), machineCalls(), evalCalls())
 }
 
 func answersOf(calls []func() string) []string {
@@ -334,6 +362,8 @@ func TestTreeCallsLeaveTheirTree(t *testing.T) {
 		impl.UsesOf(tree, "a")
 		impl.Comes(tree, "f", "f")
 		impl.CompileTree(tree)
+		impl.EvalTree(tree, "/a", 3000)
+		impl.EvalTree(tree, "/a", 7)
 		if whole(tree) != before {
 			t.Errorf("a call wrote into %s", briefTree(tree))
 		}
