@@ -216,8 +216,34 @@ func evalCalls() []func() string {
 	return calls
 }
 
+// wireCalls are calls of chapter 9, ordinary and wrong ones.
+func wireCalls() []func() string {
+	var calls []func() string
+	long := strings.Repeat("z", impl.MaxText+1)
+	texts := slices.Concat(requestsToCut(), wrongHeads(), endless(), []string{"", long, withLines("connection: close") + long[:9999]})
+	for _, s := range texts {
+		calls = append(calls, func() string { return fmt.Sprint(impl.ReadRequest(s)) })
+		for _, name := range []string{"host", "CONNECTION", "x", "", "\xff", long} {
+			calls = append(calls, func() string { return fmt.Sprint(impl.HeaderOf(s, name)) })
+		}
+	}
+	for _, s := range slices.Concat(somePaths(), noPaths(), texts) {
+		calls = append(calls,
+			func() string { return fmt.Sprint(impl.SplitPath(s)) },
+			func() string { return fmt.Sprint(impl.RequestText(impl.Request{Path: s})) },
+			func() string { return fmt.Sprint(impl.RequestText(impl.Request{Path: s, Close: true})) })
+		for _, status := range []int{200, 404, 504, 0, -1} {
+			calls = append(calls, func() string { return fmt.Sprint(impl.ReplyText(status, s, len(s)%2 == 0)) })
+		}
+	}
+	for _, status := range append(oddNumbers(), 200, 400, 404, 431, 500, 501, 503, 504) {
+		calls = append(calls, func() string { return impl.StatusWord(status) })
+	}
+	return calls
+}
+
 func allCalls() []func() string {
-	return slices.Concat(valueCalls(), tokenCalls(), treeCalls(), nameCalls(), codeCalls(), machineCalls(), evalCalls())
+	return slices.Concat(valueCalls(), tokenCalls(), treeCalls(), nameCalls(), codeCalls(), machineCalls(), evalCalls(), wireCalls())
 }
 
 func answersOf(calls []func() string) []string {
