@@ -242,8 +242,42 @@ func wireCalls() []func() string {
 	return calls
 }
 
+// tenantCalls are calls of chapter 10, of tenants that are right and of some that are not.
+func tenantCalls() []func() string {
+	var calls []func() string
+	sources := []string{"", "#", endsSource, throwsSoon, spinsSource, mixedSource, strings.Repeat(" ", 601)}
+	for k, source := range sources {
+		x, _ := impl.MakeTenant("one", source)
+		if x.State == impl.TeReady {
+			x.Queue = jobsOf("/a", "/t", "/s", "/r")[:k%5]
+		}
+		begun, _, _ := impl.TenantRun(x, 9)
+		wrong := x
+		wrong.Fuel = -1
+		calls = append(calls, func() string { return fmt.Sprint(impl.MakeTenant("one", source)) }, func() string { return fmt.Sprint(impl.MakeTenant("o ne", source)) })
+		for _, x := range []impl.Tenant{x, begun, wrong} {
+			calls = append(calls, func() string { return fmt.Sprint(impl.TenantOK(x)) }, func() string { return fmt.Sprint(impl.QueuePaths(x)) })
+			for _, n := range []int{-1, 0, 1, 2, 4, 5, 30, 32, 1000, 1001} {
+				calls = append(calls,
+					func() string { return fmt.Sprint(impl.TenantAdmit(x, impl.Job{Id: n}, n)) },
+					func() string { return fmt.Sprint(impl.TenantRun(x, n)) },
+					func() string { return fmt.Sprint(impl.TenantExpire(x, 40, n)) },
+					func() string { return fmt.Sprint(impl.TenantDrop(x, n)) })
+			}
+		}
+	}
+	for _, v := range append(rightValues(), wrongValues()...) {
+		for state := range 5 {
+			calls = append(calls, func() string {
+				return fmt.Sprint(impl.JobReply(impl.Job{Machine: impl.Machine{State: state, Value: v}}))
+			})
+		}
+	}
+	return calls
+}
+
 func allCalls() []func() string {
-	return slices.Concat(valueCalls(), tokenCalls(), treeCalls(), nameCalls(), codeCalls(), machineCalls(), evalCalls(), wireCalls())
+	return slices.Concat(valueCalls(), tokenCalls(), treeCalls(), nameCalls(), codeCalls(), machineCalls(), evalCalls(), wireCalls(), tenantCalls())
 }
 
 func answersOf(calls []func() string) []string {
