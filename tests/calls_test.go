@@ -276,8 +276,29 @@ func tenantCalls() []func() string {
 	return calls
 }
 
+// connCalls are calls of chapter 11, of connections that are right and of some that are not.
+func connCalls() []func() string {
+	calls := []func() string{func() string { return fmt.Sprint(impl.OpenConn()) }}
+	texts := []string{"", "x", "\x00\xff", shortRequest, lastRequest + "x", strings.Repeat("x", 300), strings.Repeat("x", 301), strings.Repeat("x", 400), strings.Repeat("x", impl.MaxText+1)}
+	for _, c := range connsToLookAt() {
+		calls = append(calls,
+			func() string { return fmt.Sprint(impl.ConnOK(c)) },
+			func() string { return fmt.Sprint(impl.ConnNext(c)) },
+			func() string { return fmt.Sprint(impl.ConnFlush(c)) },
+			func() string { return fmt.Sprint(impl.WaitingOf(c)) },
+			func() string { return fmt.Sprint(impl.RoomOf(c)) })
+		for _, s := range texts {
+			calls = append(calls, func() string { return fmt.Sprint(impl.ConnTake(c, s)) })
+			for _, seq := range []int{-1, 0, 3, 5, 19, 20, 100000} {
+				calls = append(calls, func() string { return fmt.Sprint(impl.ConnReady(c, seq, s)) })
+			}
+		}
+	}
+	return calls
+}
+
 func allCalls() []func() string {
-	return slices.Concat(valueCalls(), tokenCalls(), treeCalls(), nameCalls(), codeCalls(), machineCalls(), evalCalls(), wireCalls(), tenantCalls())
+	return slices.Concat(valueCalls(), tokenCalls(), treeCalls(), nameCalls(), codeCalls(), machineCalls(), evalCalls(), wireCalls(), tenantCalls(), connCalls())
 }
 
 func answersOf(calls []func() string) []string {
