@@ -297,8 +297,46 @@ func connCalls() []func() string {
 	return calls
 }
 
+// hostCalls are calls of chapter 12, of hosts that are right and of some that are not.
+func hostCalls() []func() string {
+	var calls []func() string
+	names, sources := []string{"one", "two", "bad", "three"}, []string{quickSource, mixedSource, wrongSource, spinsSource}
+	for _, c := range []impl.Config{{}, {Room: 2, Quantum: 9, Wait: 4}, {Room: 4, Quantum: 1000, Wait: 1000}, {Room: 5, Quantum: 1, Wait: 1}} {
+		calls = append(calls, func() string { return fmt.Sprint(impl.ConfigOK(c)) })
+		for count := range 5 {
+			calls = append(calls, func() string { return fmt.Sprint(impl.NewHost(c, names[:count], sources[:count])) }, func() string { return fmt.Sprint(impl.NewHost(c, names[:count], sources[:2])) })
+		}
+	}
+	texts := []string{"", "x", requestsOf("/one/a", "/none", "/two/s", "/bad", "/three", "/one/b"), requestOf("/one/z", true) + "x", "junk\r\n\r\n", longText[:401], longText}
+	first, _ := impl.NewHost(impl.Config{Room: 2, Quantum: 9, Wait: 4}, names, sources)
+	opened, _ := impl.HostOpen(first, 1)
+	busy, _, _ := impl.HostBytes(opened, 1, texts[2])
+	later, _, _ := impl.HostTick(busy)
+	wrong := later
+	wrong.Ids = 0
+	for _, h := range []impl.Host{{}, first, opened, busy, later, wrong} {
+		calls = append(calls,
+			func() string { return fmt.Sprint(impl.HostOK(h)) },
+			func() string { return fmt.Sprint(impl.HostTick(h)) },
+			func() string { return fmt.Sprint(impl.TurnOf(h)) })
+		for k := -1; k < 5; k++ {
+			calls = append(calls,
+				func() string { return fmt.Sprint(impl.HostOpen(h, k)) },
+				func() string { return fmt.Sprint(impl.HostClose(h, k)) },
+				func() string { return fmt.Sprint(impl.ConnWord(h, k)) })
+			for _, s := range texts {
+				calls = append(calls, func() string { return fmt.Sprint(impl.HostBytes(h, k, s)) })
+			}
+		}
+		for _, name := range append(names, "none", "", longText) {
+			calls = append(calls, func() string { return fmt.Sprint(impl.TenantAt(h, name)) })
+		}
+	}
+	return calls
+}
+
 func allCalls() []func() string {
-	return slices.Concat(valueCalls(), tokenCalls(), treeCalls(), nameCalls(), codeCalls(), machineCalls(), evalCalls(), wireCalls(), tenantCalls(), connCalls())
+	return slices.Concat(valueCalls(), tokenCalls(), treeCalls(), nameCalls(), codeCalls(), machineCalls(), evalCalls(), wireCalls(), tenantCalls(), connCalls(), hostCalls())
 }
 
 func answersOf(calls []func() string) []string {
