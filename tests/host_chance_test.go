@@ -223,6 +223,12 @@ func (c *course) tick() {
 	c.Helper()
 	before := c.host
 	c.take("tick", wantHostTick(c.T, c.host))
+	c.wantOneTurn(before)
+}
+
+// wantOneTurn: behind a tick at most one tenant has run, and none that waits was passed over for a whole round.
+func (c *course) wantOneTurn(before impl.Host) {
+	c.Helper()
 	ran := -1
 	for k, x := range c.host.Tenants {
 		grown := x.Fuel - before.Tenants[k].Fuel
@@ -401,6 +407,7 @@ func TestSpoiltHostsByChance(t *testing.T) {
 			wantHostBytes(t, h, k, g.hostText())
 			wantConnWord(t, h, k)
 			wantTenantAt(t, h, g.word("one two five"))
+			wantActDo(t, h, impl.Act{Kind: g.Intn(6), Conn: k, Bytes: g.hostText()})
 			if t.Failed() {
 				return
 			}

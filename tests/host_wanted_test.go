@@ -431,6 +431,9 @@ func wantHostAnswers(t *testing.T, h impl.Host) {
 		}
 	}
 	wantHostTick(t, h)
+	for _, a := range someActs() {
+		wantActDo(t, h, a)
+	}
 	wantTurnOf(t, h)
 	for _, name := range []string{"one", "two", "three", "four", "bad", "none", "", "One", "one ", "\xff", longText[:65536], longText} {
 		wantTenantAt(t, h, name)

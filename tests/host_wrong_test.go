@@ -29,6 +29,10 @@ func wantNothingOfHost(t *testing.T, what string, h impl.Host) {
 	}
 	got, sent, code := impl.HostTick(h)
 	wantHappened(t, what+", a tick", happened{got, sent, code}, happened{code: impl.ErrBad})
+	for _, a := range someActs() {
+		got, sent, code := impl.ActDo(h, a)
+		wantHappened(t, what+", "+toldAct(a), happened{got, sent, code}, happened{code: impl.ErrBad})
+	}
 	if k, code := impl.TurnOf(h); k != 0 || code != impl.ErrBad {
 		t.Errorf("TurnOf with %s = %d, %d", what, k, code)
 	}
@@ -538,6 +542,12 @@ func hostAnswers() map[string]func(h impl.Host) happened {
 			return got
 		},
 	}
+	for _, a := range someActs() {
+		list["ActDo of "+toldAct(a)] = func(h impl.Host) (got happened) {
+			got.host, got.sent, got.code = impl.ActDo(h, a)
+			return got
+		}
+	}
 	for k := range 5 {
 		list[fmt.Sprint("HostOpen of ", k)] = func(h impl.Host) (got happened) {
 			got.host, got.code = impl.HostOpen(h, k)
@@ -576,7 +586,7 @@ func TestHostsShareNothing(t *testing.T) {
 			codes[got.code]++
 		}
 	}
-	for _, code := range []int{impl.OK, impl.ErrBad, impl.ErrRange, impl.ErrFull, impl.ErrShut, impl.ErrTwice, impl.ErrMany, impl.ErrNone} {
+	for _, code := range []int{impl.OK, impl.ErrBad, impl.ErrRange, impl.ErrFull, impl.ErrShut, impl.ErrTwice, impl.ErrMany, impl.ErrNone, impl.ErrForm, impl.ErrLong} {
 		if codes[code] == 0 {
 			t.Errorf("no call had the code %d", code)
 		}
