@@ -336,7 +336,7 @@ func hostCalls() []func() string {
 }
 
 func allCalls() []func() string {
-	return slices.Concat(valueCalls(), tokenCalls(), treeCalls(), nameCalls(), codeCalls(), machineCalls(), evalCalls(), wireCalls(), tenantCalls(), connCalls(), hostCalls(), oracleCalls(), scriptCalls())
+	return slices.Concat(valueCalls(), tokenCalls(), treeCalls(), nameCalls(), codeCalls(), machineCalls(), evalCalls(), wireCalls(), tenantCalls(), connCalls(), hostCalls(), oracleCalls(), scriptCalls(), auditCalls())
 }
 
 func answersOf(calls []func() string) []string {

@@ -407,6 +407,8 @@ func TestSpoiltHostsByChance(t *testing.T) {
 			wantHostBytes(t, h, k, g.hostText())
 			wantConnWord(t, h, k)
 			wantTenantAt(t, h, g.word("one two five"))
+			wantPendingOf(t, h, k)
+			wantAudit(t, h)
 			wantActDo(t, h, impl.Act{Kind: g.Intn(6), Conn: k, Bytes: g.hostText()})
 			if t.Failed() {
 				return

@@ -421,6 +421,7 @@ func wantHostAnswers(t *testing.T, h impl.Host) {
 		wantHostOpen(t, h, k)
 		wantHostClose(t, h, k)
 		wantConnWord(t, h, k)
+		wantPendingOf(t, h, k)
 		for _, text := range []string{"", "x", "/a HTTP/1.1\r\n\r\n", requestOf("/one/a", false), longText} {
 			wantHostBytes(t, h, k, text)
 		}
@@ -435,6 +436,7 @@ func wantHostAnswers(t *testing.T, h impl.Host) {
 		wantActDo(t, h, a)
 	}
 	wantTurnOf(t, h)
+	wantAudit(t, h)
 	for _, name := range []string{"one", "two", "three", "four", "bad", "none", "", "One", "one ", "\xff", longText[:65536], longText} {
 		wantTenantAt(t, h, name)
 	}

@@ -38,6 +38,7 @@ func wantNothingOfHost(t *testing.T, what string, h impl.Host) {
 	}
 	x, code := impl.TenantAt(h, "one")
 	wantTenant(t, what+", a tenant", x, code, impl.Tenant{}, impl.ErrBad)
+	wantNothingAudited(t, what, h)
 }
 
 // busyHost has jobs of all kinds, on connections of all kinds: 0 has slots that are Ready and slots that are not, and bytes; 1 ends; 2 waits; 3 was closed.
@@ -305,11 +306,13 @@ func TestHostsWithOtherNumbers(t *testing.T) {
 			if wantHostOK(t, h); impl.HostOK(h) {
 				wantHostTick(t, h)
 				wantTurnOf(t, h)
+				wantAudit(t, h)
 				wantHostBytes(t, h, 2, requestsOf("/two/x", "/none"))
 				wantHostClose(t, h, 0)
 			} else {
 				got := wantHostTick(t, h)
 				wantHappened(t, "a wrong host", got, happened{code: impl.ErrBad})
+				wantNothingAudited(t, "another number", h)
 			}
 			if t.Failed() {
 				return
